@@ -313,7 +313,7 @@ func allOver[T any](some []T, most int) [][]T {
 	return all
 }
 
-func TestUnpackJustWhatIsAPack(t *testing.T) { // P2.2: all short bytes, after all short shapes
+func TestUnpackJustWhatIsAPack(t *testing.T) { // P2.2: short bytes of a few values, after all short shapes (no 8 fits into five bytes)
 	packs := map[string]map[string]bool{}
 	values := []byte{0, 1, 2, 4}
 	texts := allOver(values, 3)
@@ -341,7 +341,7 @@ func TestUnpackJustWhatIsAPack(t *testing.T) { // P2.2: all short bytes, after a
 		}
 	}
 	put("", "")
-	for _, s := range allOver([]byte("124b"), 3) {
+	for _, s := range allOver([]byte(letters), 3) {
 		shape := string(s)
 		for _, b := range allOver(values, 5) {
 			l, err := Unpack(shape, b)

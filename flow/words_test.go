@@ -41,8 +41,8 @@ const (
 	nextPure    = "next's clearance is PURE"
 	labelGate   = "the label, the gate's clearance"
 	leastLabel  = "the Lower, next's label"
-	leastClear  = "the Lower, next's clearance"
-	leastClears = "the Lower, the Join of both clearances"
+	nextOver    = "next's label, next's clearance"
+	nextClears  = "next's clearance, the Join of both clearances"
 )
 
 // broken: the words that don't hold, with "; " between them.
@@ -178,8 +178,8 @@ func entersByWords(w, gate, next Who) []word {
 	least := c[0].raise().join(c[2].raise()).lower()
 	return []word{
 		{nextRight, rightByWords(next.Label)}, {nextClearOK, rightByWords(next.Clear)}, {nextPure, pureByWords(next.Clear)},
-		{labelGate, c[0].leq(c[3])}, {leastLabel, least.leq(c[4])}, {leastClear, least.leq(c[5])},
-		{leastClears, least.leq(c[1].join(c[3]))},
+		{labelGate, c[0].leq(c[3])}, {leastLabel, least.leq(c[4])}, {nextOver, c[4].leq(c[5])},
+		{nextClears, c[5].leq(c[1].join(c[3]))},
 	}
 }
 
